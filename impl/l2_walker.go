@@ -41,11 +41,8 @@ func WlkOk(m PlcMap, w WlkWalker) bool {
 	return w.inBounds() && PlcCell(m, w.At) != PlcNone
 }
 
-// WlkListOk says whether walkers are ok, and in order.
+// WlkListOk says whether walkers are ok, and in order; it does not ask for the map by itself, so that no walkers are ok on any.
 func WlkListOk(m PlcMap, list []WlkWalker) bool {
-	if !PlcOk(m) {
-		return false
-	}
 	for i, w := range list {
 		if !WlkOk(m, w) || i > 0 && list[i-1].Id >= w.Id {
 			return false

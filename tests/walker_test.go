@@ -44,10 +44,26 @@ func TestWalkersThatAreOk(t *testing.T) {
 }
 
 func TestNoWalkerIsOkOnAMapThatIsNot(t *testing.T) {
-	w := impl.WlkWalker{Id: 1, At: 0}
+	first, second := impl.WlkWalker{Id: 1, At: 0}, impl.WlkWalker{Id: 2, At: 1}
 	for _, m := range badMaps() {
-		if impl.WlkOk(m, w) || impl.WlkListOk(m, []impl.WlkWalker{w}) || impl.WlkListOk(m, nil) {
-			t.Errorf("walkers are ok on %v", m)
+		if impl.WlkOk(m, first) {
+			t.Errorf("a walker is ok on %v", m)
+		}
+		for _, list := range [][]impl.WlkWalker{{first}, {first, second}, {{}}} {
+			if impl.WlkListOk(m, list) {
+				t.Errorf("the walkers %v are ok on %v", list, m)
+			}
+		}
+	}
+}
+
+// Of no walkers all are ok, and their numbers rise: that asks nothing of the map.
+func TestP70NoWalkersAreOkOnAnyMap(t *testing.T) {
+	for _, m := range append(okMaps(), badMaps()...) {
+		for _, list := range [][]impl.WlkWalker{nil, {}, make([]impl.WlkWalker, 0, 3)} {
+			if !impl.WlkListOk(m, list) {
+				t.Errorf("WlkListOk(%v, %v) is false", m, list)
+			}
 		}
 	}
 }
