@@ -3,6 +3,7 @@ package tests
 import (
 	"math"
 	"math/rand"
+	"slices"
 	"testing"
 
 	"loop.example/landmarch/impl"
@@ -60,18 +61,6 @@ func cellsOfPlaces(m impl.PlcMap) []int {
 	return row
 }
 
-func walkersEqual(a, b []impl.WlkWalker) bool {
-	if len(a) != len(b) {
-		return false
-	}
-	for i := range a {
-		if a[i] != b[i] {
-			return false
-		}
-	}
-	return true
-}
-
 // anyWalker is one whose numbers may all be out of their bounds; few numbers, so that they come again.
 func anyWalker(r *rand.Rand) impl.WlkWalker {
 	ids := []int{-2, 0, 1, 2, 3, 4, 5, 8, 9, 10, 11, math.MinInt, math.MaxInt}
@@ -114,40 +103,51 @@ func okWalkers(m impl.PlcMap, seed int64) [][]impl.WlkWalker {
 	return lists
 }
 
-// withRoom is a list with the same walkers and spare room behind its end that is not nothing, and all of its memory.
-func withRoom(list []impl.WlkWalker) (short, whole []impl.WlkWalker) {
-	whole = append([]impl.WlkWalker{}, list...)
+// spareWalker and spareParcel are what lies in spare room and in memory that is written over: no two alike, and none of them ok.
+func spareWalker(i int) impl.WlkWalker {
+	return impl.WlkWalker{Id: 70 + i, At: -70, Coins: -71, Seq: -72, Last: -73}
+}
+
+func spareParcel(i int) impl.PclParcel {
+	return impl.PclParcel{N: -70 - i, Kind: 70, Walker: spareWalker(i), Coins: -74}
+}
+
+// withRoom is a list with the same things and spare room behind its end that is not nothing, and all of its memory.
+func withRoom[T any](list []T, spare func(int) T) (short, whole []T) {
+	whole = append([]T{}, list...)
 	for i := range 6 {
-		whole = append(whole, impl.WlkWalker{Id: 70 + i, At: -70, Coins: -71, Seq: -72, Last: -73})
+		whole = append(whole, spare(i))
 	}
 	return whole[:len(list)], whole
 }
 
+// writeOver writes over all memory of a list, its spare room included.
+func writeOver[T any](list []T, with T) {
+	whole := list[:cap(list)]
+	for i := range whole {
+		whole[i] = with
+	}
+}
+
 // askMemory asks that a call neither writes into its argument, spare room included, nor answers memory of it.
-func askMemory(t *testing.T, name string, list []impl.WlkWalker, call func([]impl.WlkWalker) []impl.WlkWalker) {
+func askMemory[T comparable](t *testing.T, name string, list []T, spare func(int) T, call func([]T) []T) {
 	t.Helper()
-	short, whole := withRoom(list)
-	before := append([]impl.WlkWalker{}, whole...)
+	short, whole := withRoom(list, spare)
+	before := slices.Clone(whole)
 	got := call(short)
-	if !walkersEqual(whole, before) {
+	if !slices.Equal(whole, before) {
 		t.Fatalf("%s of %v wrote into its argument or behind its end: %v", name, list, whole)
 	}
-	kept := append([]impl.WlkWalker{}, got...)
+	kept := slices.Clone(got)
 	again := call(short)
-	for i := range whole {
-		whole[i] = impl.WlkWalker{Id: 99}
-	}
-	for i := range again[:cap(again)] {
-		again[:cap(again)][i] = impl.WlkWalker{Id: 98}
-	}
-	if !walkersEqual(got, kept) {
+	writeOver(whole, spare(99))
+	writeOver(again, spare(98))
+	if !slices.Equal(got, kept) {
 		t.Fatalf("%s of %v: the answer turned with the argument, or with the answer of another call: %v, was %v", name, list, got, kept)
 	}
-	for i := range got[:cap(got)] {
-		got[:cap(got)][i] = impl.WlkWalker{Id: 97}
-	}
+	writeOver(got, spare(97))
 	for i := range whole {
-		if whole[i] != (impl.WlkWalker{Id: 99}) {
+		if whole[i] != spare(99) {
 			t.Fatalf("%s of %v: the answer, or its spare room, is memory of the argument", name, list)
 		}
 	}

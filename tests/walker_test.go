@@ -3,6 +3,7 @@ package tests
 import (
 	"math"
 	"math/rand"
+	"slices"
 	"testing"
 
 	"loop.example/landmarch/impl"
@@ -164,7 +165,7 @@ func TestFindIsTheFirst(t *testing.T) {
 func TestOutLeavesAllOthersInTheirOrder(t *testing.T) {
 	for _, list := range anyWalkers(4, 2000) {
 		for _, id := range askedNumbers {
-			if got, want := impl.WlkOut(list, id), outPlainly(list, id); !walkersEqual(got, want) {
+			if got, want := impl.WlkOut(list, id), outPlainly(list, id); !slices.Equal(got, want) {
 				t.Fatalf("WlkOut(%v, %d) is %v, not %v", list, id, got, want)
 			}
 		}
@@ -176,13 +177,13 @@ func TestP69PutAmongAnyWalkers(t *testing.T) {
 	for _, list := range anyWalkers(6, 5000) {
 		w := anyWalker(r)
 		put := impl.WlkPut(list, w)
-		if want := putPlainly(list, w); !walkersEqual(put, want) {
+		if want := putPlainly(list, w); !slices.Equal(put, want) {
 			t.Fatalf("WlkPut(%v, %v) is %v, not %v", list, w, put, want)
 		}
 		if got, ok := impl.WlkFind(put, w.Id); !ok || got != w {
 			t.Fatalf("WlkFind of WlkPut(%v, %v) is %v, %v", list, w, got, ok)
 		}
-		if !walkersEqual(impl.WlkOut(put, w.Id), impl.WlkOut(list, w.Id)) {
+		if !slices.Equal(impl.WlkOut(put, w.Id), impl.WlkOut(list, w.Id)) {
 			t.Fatalf("WlkOut of WlkPut(%v, %v) is not that of what was", list, w)
 		}
 		for _, id := range askedNumbers {
@@ -204,10 +205,10 @@ func TestP69LongListsKeepTheirOrder(t *testing.T) {
 	}
 	for id := -102; id <= 102; id++ {
 		w := impl.WlkWalker{Id: id, At: -1}
-		if !walkersEqual(impl.WlkOut(list, id), outPlainly(list, id)) {
+		if !slices.Equal(impl.WlkOut(list, id), outPlainly(list, id)) {
 			t.Fatalf("WlkOut of %d turns the order of the others", id)
 		}
-		if !walkersEqual(impl.WlkPut(list, w), putPlainly(list, w)) {
+		if !slices.Equal(impl.WlkPut(list, w), putPlainly(list, w)) {
 			t.Fatalf("WlkPut of %d turns the order of the others", id)
 		}
 	}
@@ -217,12 +218,12 @@ func TestP69PutTakesThePlaceOfAllOfItsNumber(t *testing.T) {
 	list := []impl.WlkWalker{{Id: 4, At: 0}, {Id: 2, At: 1}, {Id: 4, At: 2}, {Id: 1, At: 3}, {Id: 2, At: 4}}
 	got := impl.WlkPut(list, impl.WlkWalker{Id: 2, At: 9})
 	want := []impl.WlkWalker{{Id: 2, At: 9}, {Id: 4, At: 0}, {Id: 4, At: 2}, {Id: 1, At: 3}}
-	if !walkersEqual(got, want) {
+	if !slices.Equal(got, want) {
 		t.Errorf("WlkPut(%v) is %v", list, got)
 	}
 	got = impl.WlkPut(list, impl.WlkWalker{Id: 4, At: 9})
 	want = []impl.WlkWalker{{Id: 2, At: 1}, {Id: 1, At: 3}, {Id: 2, At: 4}, {Id: 4, At: 9}}
-	if !walkersEqual(got, want) {
+	if !slices.Equal(got, want) {
 		t.Errorf("WlkPut(%v) is %v", list, got)
 	}
 }
@@ -235,7 +236,7 @@ func TestP70PutFromTheFrontOrTheBack(t *testing.T) {
 				front = impl.WlkPut(front, list[i])
 				back = impl.WlkPut(back, list[len(list)-1-i])
 			}
-			if !walkersEqual(front, list) || !walkersEqual(back, list) {
+			if !slices.Equal(front, list) || !slices.Equal(back, list) {
 				t.Fatalf("%v stand as %v and %v", list, front, back)
 			}
 			if !impl.WlkListOk(m, front) {
@@ -249,9 +250,9 @@ func TestWalkersMemory(t *testing.T) {
 	lists := append(anyWalkers(9, 300), okWalkers(impl.PlcMap{Cells: 4, Width: 8}, 10)...)
 	for _, list := range lists {
 		for _, id := range askedNumbers {
-			askMemory(t, "WlkOut", list, func(l []impl.WlkWalker) []impl.WlkWalker { return impl.WlkOut(l, id) })
+			askMemory(t, "WlkOut", list, spareWalker, func(l []impl.WlkWalker) []impl.WlkWalker { return impl.WlkOut(l, id) })
 			w := impl.WlkWalker{Id: id, At: 1, Coins: 2, Seq: 3, Last: 4}
-			askMemory(t, "WlkPut", list, func(l []impl.WlkWalker) []impl.WlkWalker { return impl.WlkPut(l, w) })
+			askMemory(t, "WlkPut", list, spareWalker, func(l []impl.WlkWalker) []impl.WlkWalker { return impl.WlkPut(l, w) })
 			askUnchanged(t, list, id)
 		}
 	}
@@ -260,11 +261,11 @@ func TestWalkersMemory(t *testing.T) {
 // askUnchanged asks that the calls that answer no list leave theirs as it is.
 func askUnchanged(t *testing.T, list []impl.WlkWalker, id int) {
 	t.Helper()
-	short, whole := withRoom(list)
+	short, whole := withRoom(list, spareWalker)
 	before := append([]impl.WlkWalker{}, whole...)
 	impl.WlkFind(short, id)
 	impl.WlkListOk(impl.PlcMap{Cells: 2, Width: 2}, short)
-	if !walkersEqual(whole, before) {
+	if !slices.Equal(whole, before) {
 		t.Fatalf("WlkFind or WlkListOk wrote into %v", list)
 	}
 }

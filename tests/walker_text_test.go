@@ -5,7 +5,6 @@ import (
 	"math/rand"
 	"regexp"
 	"strconv"
-	"strings"
 	"testing"
 
 	"loop.example/landmarch/impl"
@@ -33,34 +32,17 @@ func readPlainly(s string) (impl.WlkWalker, bool) {
 	return impl.WlkWalker{Id: n[0], At: n[1], Coins: n[2], Seq: n[3], Last: n[4]}, true
 }
 
-// askRead asks what WlkRead makes of a text, and that what it reads has that text.
-func askRead(t *testing.T, s string) {
-	t.Helper()
-	got, ok := impl.WlkRead(s)
-	want, wantOk := readPlainly(s)
-	if got != want || ok != wantOk {
-		t.Fatalf("WlkRead(%q) is %v, %v, not %v, %v", s, got, ok, want, wantOk)
-	}
-	if ok && impl.WlkText(got) != s {
-		t.Fatalf("WlkText of what WlkRead reads from %q is %q", s, impl.WlkText(got))
-	}
-}
+// walkerTexts is the texts of walkers.
+var walkerTexts = textKind[impl.WlkWalker]{"walker", impl.WlkRead, impl.WlkText, readPlainly}
 
-// askText asks the text of a walker, and that it is read back.
-func askText(t *testing.T, w impl.WlkWalker, has bool) {
+// askWalkerText asks for the text of a walker.
+func askWalkerText(t *testing.T, w impl.WlkWalker, has bool) {
 	t.Helper()
 	want := ""
 	if has {
 		want = fmt.Sprintf("walker %d at %d coins %d order %d code %d", w.Id, w.At, w.Coins, w.Seq, w.Last)
 	}
-	s := impl.WlkText(w)
-	if s != want {
-		t.Fatalf("WlkText(%v) is %q, not %q", w, s, want)
-	}
-	got, ok := impl.WlkRead(s)
-	if ok != has || has && got != w || !has && got != (impl.WlkWalker{}) {
-		t.Fatalf("WlkRead(%q) is %v, %v", s, got, ok)
-	}
+	walkerTexts.askWritten(t, w, want)
 }
 
 // endWalkers is walkers with each number at both ends of its bounds.
@@ -82,10 +64,10 @@ func endWalkers() []impl.WlkWalker {
 
 func TestP71TextsOfWalkers(t *testing.T) {
 	for _, w := range endWalkers() {
-		askText(t, w, true)
+		askWalkerText(t, w, true)
 		for _, at := range numbersAround(0, 31) {
 			w.At = at
-			askText(t, w, at >= 0 && at <= 31)
+			askWalkerText(t, w, at >= 0 && at <= 31)
 		}
 	}
 	for _, w := range endWalkers() {
@@ -93,11 +75,11 @@ func TestP71TextsOfWalkers(t *testing.T) {
 			for _, n := range numbersAround(bound.low, bound.high) {
 				v := w
 				bound.set(&v, n)
-				askText(t, v, n >= bound.low && n <= bound.high)
+				askWalkerText(t, v, n >= bound.low && n <= bound.high)
 			}
 		}
 	}
-	askText(t, impl.WlkWalker{}, false)
+	askWalkerText(t, impl.WlkWalker{}, false)
 }
 
 func TestP71TextsOfSomeWalkers(t *testing.T) {
@@ -164,69 +146,29 @@ func TestP71NearlyTexts(t *testing.T) {
 		"walker 1 at 2 coins 18446744073709551616 order 4 code 5",
 		"walker 1 at 2 coins 9223372036854775808 order 4 code 5",
 	} {
-		if w, ok := impl.WlkRead(s); ok || w != (impl.WlkWalker{}) {
-			t.Errorf("WlkRead(%q) is %v, %v", s, w, ok)
-		}
+		walkerTexts.askNone(t, s)
 	}
 }
 
-// Each byte of some texts is left out, doubled, turned into each other one, and has each one put ahead of it.
 func TestP71TextsWithOneByteTurned(t *testing.T) {
 	for _, s := range []string{
 		"walker 1 at 0 coins 0 order 0 code 0",
 		"walker 9 at 31 coins 99 order 900 code 9",
 		"walker 5 at 10 coins 10 order 89 code 1",
 	} {
-		askRead(t, s)
-		for i := 0; i <= len(s); i++ {
-			for b := range 256 {
-				with := string([]byte{byte(b)})
-				askRead(t, s[:i]+with+s[i:])
-				if i < len(s) {
-					askRead(t, s[:i]+with+s[i+1:])
-				}
-			}
-			if i < len(s) {
-				askRead(t, s[:i]+s[i+1:])
-			}
-			askRead(t, s[:i])
-			askRead(t, s[i:])
-		}
+		walkerTexts.askOneByteTurned(t, s)
 	}
 }
 
 func TestP71TextsOfManyBytes(t *testing.T) {
-	s := "walker 1 at 2 coins 3 order 4 code 5"
-	for size := len(s) + 1; size < 130; size++ {
-		more := size - len(s)
-		askRead(t, s+strings.Repeat(" ", more))
-		askRead(t, strings.Repeat(" ", more)+s)
-		askRead(t, s+strings.Repeat("5", more))
-		askRead(t, "walker "+strings.Repeat("0", more)+s[len("walker "):])
-		askRead(t, strings.Replace(s, " ", strings.Repeat(" ", more+1), 1))
-	}
-	for _, size := range []int{1 << 10, 1 << 20} {
-		askRead(t, strings.Repeat(" ", size))
-		askRead(t, s+strings.Repeat("\n", size))
-		askRead(t, "walker "+strings.Repeat("1", size))
-	}
+	walkerTexts.askManyBytes(t, "walker 1 at 2 coins 3 order 4 code 5")
 }
 
 func TestP71TextsOfAnyBytes(t *testing.T) {
-	r := rand.New(rand.NewSource(11))
-	words := []string{"walker", "at", "coins", "order", "code", " ", "  ", "0", "1", "9", "31", "32", "900", "-1", "+1", "\xff", "\x00", "é"}
-	for range 20000 {
-		s := ""
-		for range r.Intn(24) {
-			s += words[r.Intn(len(words))]
-		}
-		askRead(t, s)
-		bytes := make([]byte, r.Intn(110))
-		r.Read(bytes)
-		askRead(t, string(bytes))
-	}
+	walkerTexts.askAnyBytes(t, 11, []string{"walker", "at", "coins", "order", "code", "31", "32", "900"})
+	r := rand.New(rand.NewSource(12))
 	for range 20000 {
 		numbers := []any{r.Intn(12), r.Intn(40), r.Intn(120), r.Intn(1000), r.Intn(12)}
-		askRead(t, fmt.Sprintf("walker %d at %d coins %d order %d code %d", numbers...))
+		walkerTexts.askRead(t, fmt.Sprintf("walker %d at %d coins %d order %d code %d", numbers...))
 	}
 }
