@@ -67,6 +67,14 @@ func (s mapSide) step() int {
 	return 0
 }
 
+// across is the other side: on it a cell lies from the one on this side.
+func (s mapSide) across() mapSide {
+	if s == leftSide {
+		return rightSide
+	}
+	return leftSide
+}
+
 // beside is the cell on this side of a cell.
 func (s mapSide) beside(m PlcMap, cell int) int {
 	by := s.step()
