@@ -38,6 +38,7 @@ func askNoWorld(t *testing.T, why string, w impl.WldWorld) {
 			}
 		}
 	}
+	askNoCalm(t, why, w)
 }
 
 func TestP13MapsThatAreNotOk(t *testing.T) {
