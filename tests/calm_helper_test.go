@@ -63,7 +63,7 @@ func askOneRoundMore(t *testing.T, w impl.WldWorld, n int, calm impl.WldWorld) {
 	}
 }
 
-// askRestful asks of a world to which at most 200 steps have led for P7, P8 and P10: the world behind 20 rounds.
+// askRestful asks of a world to which at most 200 steps have led for P7, P8, P9 and P10: the world behind 20 rounds.
 func askRestful(t *testing.T, w impl.WldWorld) impl.WldWorld {
 	t.Helper()
 	one := impl.WldCalm(w, 1)
@@ -80,6 +80,7 @@ func askRestful(t *testing.T, w impl.WldWorld) impl.WldWorld {
 		t.Fatalf("behind 20 rounds of %+v there is no rest: %+v", w, calm)
 	}
 	askAllDone(t, w, calm)
+	askStaysAtRest(t, calm)
 	return calm
 }
 

@@ -29,7 +29,7 @@ func eachRun(t *testing.T, seed int64, counts []int, each func(first impl.WldWor
 	}
 }
 
-func TestP7P8P10CalmsBehindRuns(t *testing.T) {
+func TestP7ToP10CalmsBehindRuns(t *testing.T) {
 	tally := map[string]int{}
 	counts := []int{0, 1, 2, 3, 5, 8, 12, 20, 40, 80, 120, 160, 190, 200, 200, 200, 200, 200, 200}
 	eachRun(t, 371, counts, func(_ impl.WldWorld, _ []impl.WldEvent, w impl.WldWorld) {
@@ -49,7 +49,7 @@ func TestP7P8P10CalmsBehindRuns(t *testing.T) {
 }
 
 // Where no cell is told of parcels pile up, more of them than go over a border in a few rounds.
-func TestP7P8P10CalmsWhereParcelsPileUp(t *testing.T) {
+func TestP7ToP10CalmsWhereParcelsPileUp(t *testing.T) {
 	tally := map[string]int{}
 	r := rand.New(rand.NewSource(372))
 	for _, m := range calmMaps {
@@ -71,7 +71,7 @@ func TestP7P8P10CalmsWhereParcelsPileUp(t *testing.T) {
 }
 
 // With as many messages on their way as there may be.
-func TestP7P8P10P11CalmsOfAllMessages(t *testing.T) {
+func TestP7ToP11CalmsOfAllMessages(t *testing.T) {
 	tally := map[string]int{}
 	r := rand.New(rand.NewSource(378))
 	eachRun(t, 379, []int{3, 60, 110}, func(_ impl.WldWorld, _ []impl.WldEvent, w impl.WldWorld) {

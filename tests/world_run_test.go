@@ -14,9 +14,11 @@ type orderKey struct {
 	seq int
 }
 
-// chronicle is a world from WldNew on, with all that was so on the way: of each cell its state behind so many records, what came of each order, and how far the notes of each walker go.
+// chronicle is a world from WldNew on, with all that was so on the way: what it is as one world, now and in the beginning, of each cell its state behind so many records, what came of each order, and how far the notes of each walker go.
 type chronicle struct {
 	w      impl.WldWorld
+	one    impl.OneWorld
+	first  impl.OneWorld
 	states [][]impl.CllCell
 	came   map[orderKey]int
 	noted  map[int]int
@@ -36,6 +38,8 @@ func chronicleOf(t *testing.T, m impl.PlcMap, list []impl.WlkWalker, servers int
 	for _, w := range list {
 		c.noted[w.Id] = w.Seq
 	}
+	c.one = askOneOf(t, c.w)
+	c.first = c.one
 	c.askAll(t)
 	return c
 }
@@ -47,6 +51,7 @@ func (c *chronicle) step(t *testing.T, e impl.WldEvent) {
 	c.w = askStep(t, before, e)
 	c.write(t, before, e)
 	c.note(t, before)
+	c.askOne(t, before, e)
 	c.askAll(t)
 	c.count(before, e)
 }
@@ -308,7 +313,7 @@ func beginnings(r *rand.Rand, m impl.PlcMap) [][]impl.WlkWalker {
 	return [][]impl.WlkWalker{nil, several(4), several(2, 9), several(1, 3, 5, 7), several(1, 2, 3, 4, 5, 6, 7, 8, 9)}
 }
 
-func TestP4P5P6P13P14P15LongRuns(t *testing.T) {
+func TestP1ToP6P13P14P15LongRuns(t *testing.T) {
 	tally := map[string]int{}
 	r := rand.New(rand.NewSource(351))
 	for _, m := range []impl.PlcMap{{Cells: 2, Width: 2}, {Cells: 3, Width: 2}, {Cells: 4, Width: 3}, {Cells: 3, Width: 8}} {
@@ -329,6 +334,9 @@ func TestP4P5P6P13P14P15LongRuns(t *testing.T) {
 		"granted to another server", "noted", "a walker comes in", "coins come in", "parcels are let go of", "an order is done",
 		"brought out of its order", "brought to who is down", "an order for who held the cell", "a hold in the place of an earlier one",
 		"a grant that is too late", "a hold of an earlier age", "a ghost", "a ghost of what was",
+		"nothing that was written", "the one world stays behind a record", "a walker steps to the left", "a walker steps to the right",
+		"coins fly to the left", "coins fly to the right", "lands from the left", "lands from the right", "falls from the left", "falls from the right",
+		"on its way behind a step", "in the air behind a step", "came in and is not let go of",
 	} {
 		if tally[name] < 20 {
 			t.Errorf("too few of %q: %v", name, tally)

@@ -39,6 +39,9 @@ func askNoWorld(t *testing.T, why string, w impl.WldWorld) {
 		}
 	}
 	askNoCalm(t, why, w)
+	if got := impl.OneOf(w); !isNoOne(got) {
+		t.Errorf("%s: OneOf(%+v) is %+v", why, w, got)
+	}
 }
 
 func TestP13MapsThatAreNotOk(t *testing.T) {
