@@ -42,6 +42,9 @@ func askNoWorld(t *testing.T, why string, w impl.WldWorld) {
 	if got := impl.OneOf(w); !isNoOne(got) {
 		t.Errorf("%s: OneOf(%+v) is %+v", why, w, got)
 	}
+	if got := impl.DskBoard(w); len(got) != 0 {
+		t.Errorf("%s: DskBoard(%+v) is %q", why, w, got)
+	}
 }
 
 func TestP13MapsThatAreNotOk(t *testing.T) {
